@@ -1,0 +1,1 @@
+"""Ringshores: one-way streets, rings and shores that are turned."""

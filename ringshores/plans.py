@@ -1,0 +1,104 @@
+"""Plans of towns and streets, and signings of the streets."""
+
+from ringshores.errors import NoPlan, NoSigning, NoTown
+
+MOST_TOWNS = 6
+MOST_STREETS = 9
+
+
+def is_below(thing, bound):
+    """Whether thing, of anything, is a whole number from 0 to one less than bound."""
+    # Python counts True and False among the ints, the document does not.
+    return isinstance(thing, int) and not isinstance(thing, bool) and 0 <= thing < bound
+
+
+def is_pair(thing):
+    """Whether thing, of anything, is a tuple of two parts."""
+    return isinstance(thing, tuple) and len(thing) == 2
+
+
+def is_street(many, thing):
+    """Whether thing, of anything, is a street between two of so many towns."""
+    if not is_pair(thing):
+        return False
+    one, other = thing
+    return is_below(one, many) and is_below(other, many) and one < other
+
+
+def are_streets(many, thing):
+    """Whether thing, of anything, is a tuple of streets as a plan has them."""
+    if not isinstance(thing, tuple) or len(thing) > MOST_STREETS:
+        return False
+    if not all([is_street(many, street) for street in thing]):
+        return False
+    return all([ahead <= street for ahead, street in zip(thing, thing[1:])])
+
+
+def towns_from(town, paths):
+    """The rising tuple of the towns that are come to from a town by paths (start, end)."""
+    found = [town]
+    waiting = [town]
+    while waiting:
+        here = waiting.pop()
+        for start, end in paths:
+            if start == here and end not in found:
+                found.append(end)
+                waiting.append(end)
+    return tuple(sorted(found))
+
+
+def hang_together(many, streets):
+    """Whether each town is come to from each other one, whichever way the streets lead."""
+    both_ways = list(streets) + [(other, one) for one, other in streets]
+    return len(towns_from(0, both_ways)) == many
+
+
+def is_plan(thing):
+    """Whether thing, of anything, is a plan."""
+    if not is_pair(thing):
+        return False
+    many, streets = thing
+    if not is_below(many, MOST_TOWNS + 1) or many == 0:
+        return False
+    return are_streets(many, streets) and hang_together(many, streets)
+
+
+def need_plan(plan):
+    """Refuse what is no plan."""
+    if not is_plan(plan):
+        raise NoPlan()
+
+
+def is_signing(plan, thing):
+    """Whether thing, of anything, is a signing of the plan."""
+    need_plan(plan)
+    if not isinstance(thing, tuple) or len(thing) != len(plan[1]):
+        return False
+    return all([is_below(sign, 2) for sign in thing])
+
+
+def need_signing(plan, signing):
+    """Refuse what is no plan, then what is no signing of it."""
+    if not is_signing(plan, signing):
+        raise NoSigning()
+
+
+def paths_of(plan, signing):
+    """For each street the pair (start, end) of the towns from and to which it leads."""
+    return [(other, one) if sign == 1 else (one, other)
+            for sign, (one, other) in zip(signing, plan[1])]
+
+
+def outs(plan, signing):
+    """The tuple with, for each town, how many streets lead out of it."""
+    need_signing(plan, signing)
+    starts = [path[0] for path in paths_of(plan, signing)]
+    return tuple([starts.count(town) for town in range(plan[0])])
+
+
+def come_to(plan, signing, town):
+    """The rising tuple of the towns that are come to from a town, itself too."""
+    need_signing(plan, signing)
+    if not is_below(town, plan[0]):
+        raise NoTown()
+    return towns_from(town, paths_of(plan, signing))

@@ -1,0 +1,188 @@
+"""Points 2, 3 and 4, for all functions alike: what is handed in, by what name, and what is refused."""
+
+from copy import deepcopy
+from inspect import signature
+from itertools import permutations
+
+from ringshores import plans, turns
+from ringshores.errors import NoPlan, NoRow, NoSigning, NoTown, NoTurn, ShoreError
+from tests import helper
+from tests.helper import Case
+
+PLAN = (5, ((0, 1), (0, 2), (1, 2), (2, 3), (3, 4)))
+SIGNING = (0, 1, 0, 0, 0)
+TURN = ("shore", (0, 1, 2, 3))
+ROW = (("shore", (0, 1, 2)), ("ring", (0, 1, 2)))
+
+# Each function, what is handed in by its names and in their order, what is told, and the
+# refusals in the order of the names, None where there is none.
+CALLS = [
+    (plans.is_plan, {"thing": PLAN}, True, [None]),
+    (plans.is_signing, {"plan": PLAN, "thing": SIGNING}, True, [NoPlan, None]),
+    (plans.outs, {"plan": PLAN, "signing": SIGNING}, (1, 1, 2, 1, 0), [NoPlan, NoSigning]),
+    (plans.come_to, {"plan": PLAN, "signing": SIGNING, "town": 3}, (3, 4),
+     [NoPlan, NoSigning, NoTown]),
+    (turns.rings_of, {"plan": PLAN, "signing": SIGNING}, ((0, 1, 2),), [NoPlan, NoSigning]),
+    (turns.shores_of, {"plan": PLAN, "signing": SIGNING},
+     ((0, 1, 2), (0, 1, 2, 3)), [NoPlan, NoSigning]),
+    (turns.turned, {"plan": PLAN, "signing": SIGNING, "turn": TURN}, (0, 1, 0, 0, 1),
+     [NoPlan, NoSigning, NoTurn]),
+    (turns.behind, {"plan": PLAN, "signing": SIGNING, "row": ROW}, (1, 0, 1, 1, 0),
+     [NoPlan, NoSigning, NoRow]),
+    (turns.is_row, {"plan": PLAN, "signing": SIGNING, "thing": ROW}, True,
+     [NoPlan, NoSigning, None]),
+    (turns.back, {"plan": PLAN, "signing": SIGNING, "row": ROW},
+     (("ring", (0, 1, 2)), ("shore", (3, 4))), [NoPlan, NoSigning, NoRow]),
+    (turns.rings_first, {"plan": PLAN, "signing": SIGNING, "row": ROW},
+     (("ring", (0, 1, 2)), ("shore", (0, 1, 2))), [NoPlan, NoSigning, NoRow]),
+]
+
+WRONG = [None, False, True, -1, 9999999999999, "", "x" * 600, [], {}, [0], {0: [1]}, ([], {}),
+         helper.deep(8), (0,) * 2999, [PLAN, SIGNING], (PLAN, SIGNING), ("ring", {}), ([0], "ring")]
+
+
+class Interface(Case):
+    def test_each_function_has_the_names_told_and_stands_in_its_file(self):
+        for call, given, _, _ in CALLS:
+            self.assertEqual(list(signature(call).parameters), list(given))
+            self.assertIn(call.__module__, ("ringshores.plans", "ringshores.turns"))
+            home = plans if call.__module__ == "ringshores.plans" else turns
+            self.assertIs(getattr(home, call.__name__), call)
+
+    def test_no_name_may_be_left_out(self):
+        for call, given, _, _ in CALLS:
+            with self.assertRaises(TypeError):
+                call(*list(given.values())[:-1])
+
+    def test_by_places(self):
+        for call, given, wanted, _ in CALLS:
+            self.just(call(*given.values()), wanted, call.__name__)
+
+    def test_by_names_in_any_order(self):
+        for call, given, wanted, _ in CALLS:
+            for names in permutations(given):
+                self.just(call(**{name: given[name] for name in names}), wanted, call.__name__)
+
+    def test_some_by_places_and_the_rest_by_names(self):
+        for call, given, wanted, _ in CALLS:
+            for many in range(len(given)):
+                rest = dict(list(given.items())[many:])
+                self.just(call(*list(given.values())[:many], **rest), wanted, call.__name__)
+
+
+class Nothing(Case):
+    def test_the_same_asked_again_has_the_same_answer(self):
+        for call, given, wanted, _ in CALLS:
+            for _ in range(3):
+                self.just(call(**deepcopy(given)), wanted)
+
+    def test_what_is_asked_between_changes_nothing(self):
+        for call, given, wanted, refusals in CALLS:
+            for other, others, _, _ in CALLS:
+                other(*others.values())
+            for wrong in WRONG:
+                if refusals[-1] is not None:
+                    self.refused(refusals[-1], call, *list(given.values())[:-1], wrong)
+            self.just(call(*given.values()), wanted)
+
+    def test_what_is_handed_in_is_afterwards_as_it_was(self):
+        for call, given, _, _ in CALLS:
+            before = repr(given)
+            call(**given)
+            self.assertEqual(repr(given), before)
+
+    def test_what_is_refused_is_afterwards_as_it_was(self):
+        for call, given, _, _ in CALLS:
+            for name in given:
+                for thing in WRONG + helper.odd_things():
+                    changed = {**given, name: deepcopy(thing)}
+                    try:
+                        call(**changed)
+                    except ShoreError:
+                        pass
+                    self.just(changed[name], thing)
+
+
+class Refusals(Case):
+    def test_each_by_its_own_class(self):
+        for call, given, _, refusals in CALLS:
+            for name, refusal in zip(given, refusals):
+                for wrong in WRONG:
+                    changed = {**given, name: wrong}
+                    if refusal is None:
+                        self.just(call(**changed), False)
+                    else:
+                        self.refused(refusal, call, **changed)
+
+    def test_of_several_the_first_one(self):
+        for call, given, _, refusals in CALLS:
+            for first, refusal in enumerate(refusals):
+                if refusal is None:
+                    continue
+                for wrong in WRONG:
+                    for place in range(first, len(given)):
+                        changed = list(given.values())
+                        changed[first] = wrong
+                        changed[place] = wrong
+                        self.refused(refusal, call, *changed)
+                    changed[first:] = [wrong] * (len(given) - first)
+                    self.refused(refusal, call, *changed)
+
+    def test_a_signing_of_another_plan(self):
+        for call, given, _, refusals in CALLS:
+            if len(given) > 1 and refusals[1] is NoSigning:
+                rest = list(given.values())[2:]
+                self.refused(NoSigning, call, PLAN, SIGNING[1:], *rest)
+                self.refused(NoSigning, call, helper.PRISM, SIGNING, *rest)
+                self.refused(NoPlan, call, (5, PLAN[1][::-1]), SIGNING, *rest)
+
+    def test_towns_turns_and_rows_of_another_plan(self):
+        self.refused(NoTown, plans.come_to, helper.PAIR, (0,), 2)
+        self.refused(NoTurn, turns.turned, helper.PAIR, (0,), TURN)
+        self.refused(NoRow, turns.behind, helper.PAIR, (0,), ROW)
+        self.refused(NoRow, turns.back, helper.PAIR, (0,), ROW)
+        self.refused(NoRow, turns.rings_first, helper.PAIR, (0,), ROW)
+
+
+class Things(Case):
+    def test_a_truth_stands_for_no_number(self):
+        self.assertIs(plans.is_plan((True, ())), False)
+        self.assertIs(plans.is_signing(helper.PAIR, (True,)), False)
+        self.refused(NoPlan, plans.outs, (2, ((False, True),)), (0,))
+        self.refused(NoSigning, plans.outs, helper.PAIR, (False,))
+        self.refused(NoTown, plans.come_to, helper.PAIR, (0,), False)
+        self.refused(NoTown, plans.come_to, helper.PAIR, (0,), True)
+        self.refused(NoTurn, turns.turned, helper.TWINS, (0, 1), ("ring", (False, True)))
+        self.refused(NoTurn, turns.turned, helper.PAIR, (0,), ("shore", (False,)))
+        self.assertIs(turns.is_row(helper.PAIR, (0,), (("shore", (False,)),)), False)
+
+    def test_numbers_of_thirteen_figures(self):
+        for number in (9999999999999, -9999999999999):
+            self.assertIs(plans.is_plan((number, ())), False)
+            self.assertIs(plans.is_plan((2, ((0, number),))), False)
+            self.assertIs(plans.is_signing(helper.PAIR, (number,)), False)
+            self.refused(NoTown, plans.come_to, helper.PAIR, (0,), number)
+            self.refused(NoTurn, turns.turned, helper.PAIR, (0,), ("shore", (number,)))
+
+    def test_what_is_told_holds_numbers_and_no_truths(self):
+        for plan in helper.SMALL_PLANS:
+            for signing in helper.some_signings(plan, 8):
+                told = [plans.outs(plan, signing), turns.rings_of(plan, signing),
+                        turns.shores_of(plan, signing), plans.come_to(plan, signing, 0)]
+                told += [turns.turned(plan, signing, turn)
+                         for turn in helper.turns_told(plan, signing)]
+                for thing in told:
+                    self.assertIs(type(thing), tuple)
+                    self.assertNotIn("True", repr(thing))
+                    self.assertNotIn("False", repr(thing))
+
+    def test_what_was_told_may_be_handed_in_again(self):
+        for plan in helper.SMALL_PLANS + helper.BIG_PLANS:
+            for signing in helper.some_signings(plan, 8):
+                for word, told in (("ring", turns.rings_of(plan, signing)),
+                                   ("shore", turns.shores_of(plan, signing))):
+                    for lot in told:
+                        now = turns.turned(plan, signing, (word, lot))
+                        self.assertIs(plans.is_signing(plan, now), True)
+                        gone_back = turns.back(plan, signing, ((word, lot),))
+                        self.just(turns.behind(plan, now, gone_back), signing)
