@@ -6,15 +6,25 @@ MOST_TOWNS = 6
 MOST_STREETS = 9
 
 
+def is_whole(thing):
+    """Whether thing, of anything, is a whole number."""
+    # Python counts True and False among the ints, the document does not.
+    return isinstance(thing, int) and not isinstance(thing, bool)
+
+
 def is_below(thing, bound):
     """Whether thing, of anything, is a whole number from 0 to one less than bound."""
-    # Python counts True and False among the ints, the document does not.
-    return isinstance(thing, int) and not isinstance(thing, bool) and 0 <= thing < bound
+    return is_whole(thing) and 0 <= thing < bound
 
 
 def is_pair(thing):
     """Whether thing, of anything, is a tuple of two parts."""
     return isinstance(thing, tuple) and len(thing) == 2
+
+
+def is_triple(thing):
+    """Whether thing, of anything, is a tuple of three parts."""
+    return isinstance(thing, tuple) and len(thing) == 3
 
 
 def is_street(many, thing):
@@ -34,23 +44,32 @@ def are_streets(many, thing):
     return all([ahead <= street for ahead, street in zip(thing, thing[1:])])
 
 
-def towns_from(town, paths):
-    """The rising tuple of the towns that are come to from a town by paths (start, end)."""
-    found = [town]
+def ways_from(town, paths):
+    """For each town come to from a town by paths (start, end), the places of the paths of a shortest way."""
+    ways = {town: ()}
     waiting = [town]
     while waiting:
-        here = waiting.pop()
-        for start, end in paths:
-            if start == here and end not in found:
-                found.append(end)
+        here = waiting.pop(0)
+        for place, (start, end) in enumerate(paths):
+            if start == here and end not in ways:
+                ways[end] = ways[here] + (place,)
                 waiting.append(end)
-    return tuple(sorted(found))
+    return ways
+
+
+def towns_from(town, paths):
+    """The rising tuple of the towns that are come to from a town by paths (start, end)."""
+    return tuple(sorted(ways_from(town, paths)))
+
+
+def both_ways(streets):
+    """The paths of all streets from one to other, and behind them those of all from other to one."""
+    return list(streets) + [(other, one) for one, other in streets]
 
 
 def hang_together(many, streets):
     """Whether each town is come to from each other one, whichever way the streets lead."""
-    both_ways = list(streets) + [(other, one) for one, other in streets]
-    return len(towns_from(0, both_ways)) == many
+    return len(towns_from(0, both_ways(streets))) == many
 
 
 def is_plan(thing):
@@ -81,6 +100,12 @@ def need_signing(plan, signing):
     """Refuse what is no plan, then what is no signing of it."""
     if not is_signing(plan, signing):
         raise NoSigning()
+
+
+def need_signings(plan, one, other):
+    """Refuse what is no plan, then what are no two signings of it."""
+    need_signing(plan, one)
+    need_signing(plan, other)
 
 
 def paths_of(plan, signing):

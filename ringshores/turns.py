@@ -130,6 +130,13 @@ def is_row(plan, signing, thing):
     return signing_behind_row(plan, signing, thing) is not None
 
 
+def leads_there(plan, one, other, words, thing):
+    """Whether thing, of anything, is a row of turns of these words from one signing to the other."""
+    if signing_behind_row(plan, one, thing) != other:
+        return False
+    return all([turn[0] in words for turn in thing])
+
+
 def behind(plan, signing, row):
     """The signing behind a row."""
     need_signing(plan, signing)

@@ -1,6 +1,7 @@
 """What the tests share: plans, odd things, and the document's words gone through one by one."""
 
 import unittest
+from functools import lru_cache
 from itertools import combinations, product
 
 from ringshores.errors import ShoreError
@@ -17,13 +18,16 @@ SQUARE = (4, ((0, 1), (0, 3), (1, 2), (2, 3)))
 KITE = (4, ((0, 1), (0, 2), (1, 2), (1, 2), (2, 3)))
 ALL_FOUR = (4, ((0, 1), (0, 2), (0, 3), (1, 2), (1, 3), (2, 3)))
 BOW = (5, ((0, 1), (0, 2), (1, 2), (2, 3), (2, 4), (3, 4)))
+# The triangle of the flag is a ring, and from it streets lead on: it has rings and shores.
+FLAG = (5, ((0, 1), (0, 2), (1, 2), (2, 3), (3, 4)))
+FLAG_SIGNING = (0, 1, 0, 0, 0)
 STAR = (6, ((0, 3), (1, 3), (2, 3), (3, 4), (3, 5)))
 PRISM = (6, ((0, 1), (0, 2), (0, 3), (1, 2), (1, 4), (2, 5), (3, 4), (3, 5), (4, 5)))
 CROSSES = (6, ((0, 3), (0, 4), (0, 5), (1, 3), (1, 4), (1, 5), (2, 3), (2, 4), (2, 5)))
 LOOSE_SIX = (6, ((0, 1), (0, 1), (0, 2), (1, 2), (2, 3), (3, 4), (3, 5), (4, 5), (4, 5)))
 
 SMALL_PLANS = [ALONE, PAIR, TWINS, TRIPLETS, PATH, TRIANGLE, FAT_TRIANGLE, SQUARE, KITE, ALL_FOUR,
-               BOW, STAR]
+               BOW, FLAG, STAR]
 BIG_PLANS = [NINE_LIKE, PRISM, CROSSES, LOOSE_SIX]
 
 
@@ -174,6 +178,121 @@ def walk_row(plan, signing, length, choose):
         row.append(turns[choose(place) % len(turns)])
         signing = turned_told(plan, signing, row[-1])
     return tuple(row), signing
+
+
+def is_lot_told(thing, bound):
+    """Whether it is a rising tuple of whole numbers below a bound, without a truth among them."""
+    if type(thing) is not tuple or not all(type(part) is int and 0 <= part < bound for part in thing):
+        return False
+    return list(thing) == sorted(set(thing))
+
+
+def is_turn_told(plan, signing, thing, words):
+    if type(thing) is not tuple or len(thing) != 2 or thing[0] not in words:
+        return False
+    if thing[0] == "ring":
+        return is_lot_told(thing[1], len(signing)) and is_ring_told(plan, signing, thing[1])
+    return is_lot_told(thing[1], plan[0]) and is_shore_told(plan, signing, thing[1])
+
+
+def row_end_told(plan, signing, thing, words=("ring", "shore")):
+    """The signing behind a row of turns of the words; None of what is none."""
+    if type(thing) is not tuple:
+        return None
+    for turn in thing:
+        if not is_turn_told(plan, signing, turn, words):
+            return None
+        signing = turned_told(plan, signing, turn)
+    return signing
+
+
+@lru_cache(maxsize=None)
+def turned_all_told(plan, signing, words):
+    """All signings behind one turn of the words."""
+    return [turned_told(plan, signing, turn) for turn in turns_told(plan, signing) if turn[0] in words]
+
+
+@lru_cache(maxsize=None)
+def led_to_told(plan, signing, words):
+    """All signings to which one leads by turns of the words, itself too."""
+    found = {signing}
+    waiting = [signing]
+    while waiting:
+        for other in turned_all_told(plan, waiting.pop(), words):
+            if other not in found:
+                found.add(other)
+                waiting.append(other)
+    return found
+
+
+def steps_told(plan, thing):
+    """The steps (street, from, to) of a walk; None of what is none."""
+    if type(thing) is not tuple or len(thing) != 2:
+        return None
+    town, streets = thing
+    if type(town) is not int or not 0 <= town < plan[0]:
+        return None
+    if type(streets) is not tuple or len(streets) == 0:
+        return None
+    steps = []
+    for street in streets:
+        if type(street) is not int or not 0 <= street < len(plan[1]):
+            return None
+        ends = set(plan[1][street])
+        if town not in ends:
+            return None
+        end = (ends - {town}).pop()
+        steps.append((street, town, end))
+        town = end
+    return steps
+
+
+def lead_told(plan, signing, steps):
+    """How many steps are gone as their streets lead less how many are gone against it."""
+    ways = [start_and_end(plan, signing, street) == (start, end) for street, start, end in steps]
+    return ways.count(True) - ways.count(False)
+
+
+def walks_told(plan, most):
+    """All walks of at most so many streets."""
+    found = []
+    last = [(town, ()) for town in range(plan[0])]
+    for _ in range(most):
+        last = [(town, streets + (street,)) for town, streets in last for street in range(len(plan[1]))
+                if steps_told(plan, (town, streets + (street,))) is not None]
+        found += last
+    return found
+
+
+def swept_told(plan, numbers, times):
+    """The towns' numbers behind so many sweeps of each, done one by one."""
+    now = list(numbers)
+    for town in range(plan[0]):
+        for _ in range(times[town]):
+            for ends in plan[1]:
+                if town in ends:
+                    now[town] -= 1
+                    now[sum(ends) - town] += 1
+    return tuple(now)
+
+
+def turned_on_told(plan, signing, word, times):
+    """The signing behind so many turns of a word, each one of those that can be done, if any."""
+    for place in range(times):
+        turns = [turn for turn in turns_told(plan, signing) if turn[0] == word]
+        if turns:
+            signing = turned_told(plan, signing, turns[(5 * place + 2) % len(turns)])
+    return signing
+
+
+def rows_of_two_told(plan, signing, most):
+    """Rows of two turns, each among the first so many that can be done."""
+    return [(first, second) for first in turns_told(plan, signing)[:most]
+            for second in turns_told(plan, turned_told(plan, signing, first))[:most]]
+
+
+def some_pairs(plan, most=24):
+    return list(product(some_signings(plan, most), repeat=2))
 
 
 class Case(unittest.TestCase):

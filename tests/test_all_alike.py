@@ -3,16 +3,34 @@
 from copy import deepcopy
 from inspect import signature
 from itertools import permutations
+from time import process_time
 
-from ringshores import plans, turns
-from ringshores.errors import NoPlan, NoRow, NoSigning, NoTown, NoTurn, ShoreError
+from ringshores import both, plans, rings, shores, split, turns
+from ringshores.errors import (NoPlan, NoRow, NoSigning, NoStreet, NoTown, NoTurn, NoWalk,
+                               ShoreError)
 from tests import helper
 from tests.helper import Case
 
-PLAN = (5, ((0, 1), (0, 2), (1, 2), (2, 3), (3, 4)))
-SIGNING = (0, 1, 0, 0, 0)
+PLAN = helper.FLAG
+SIGNING = helper.FLAG_SIGNING
 TURN = ("shore", (0, 1, 2, 3))
 ROW = (("shore", (0, 1, 2)), ("ring", (0, 1, 2)))
+BEHIND = (1, 0, 1, 1, 0)
+RING_BEHIND = (1, 0, 1, 0, 0)
+SHORE_BEHIND = (0, 1, 0, 1, 0)
+WALK = (3, (3, 1, 0))
+RING_ROW = ("row", (("ring", (0, 1, 2)),))
+SHORE_ROW = ("row", (("shore", (0, 1, 2)),))
+
+# Where each function of the interface stands.
+HOMES = {
+    plans: ["is_plan", "is_signing", "outs", "come_to"],
+    turns: ["rings_of", "shores_of", "turned", "behind", "is_row", "back", "rings_first"],
+    split: ["holder", "shows_holder", "in_rings"],
+    rings: ["by_rings", "shows_by_rings"],
+    shores: ["lead", "by_shores", "shows_by_shores", "heights"],
+    both: ["sweeps", "by_both", "shows_by_both"],
+}
 
 # Each function, what is handed in by its names and in their order, what is told, and the
 # refusals in the order of the names, None where there is none.
@@ -35,6 +53,33 @@ CALLS = [
      (("ring", (0, 1, 2)), ("shore", (3, 4))), [NoPlan, NoSigning, NoRow]),
     (turns.rings_first, {"plan": PLAN, "signing": SIGNING, "row": ROW},
      (("ring", (0, 1, 2)), ("shore", (0, 1, 2))), [NoPlan, NoSigning, NoRow]),
+    (split.holder, {"plan": PLAN, "signing": SIGNING, "street": 1}, ("ring", (0, 1, 2)),
+     [NoPlan, NoSigning, NoStreet]),
+    (split.shows_holder, {"plan": PLAN, "signing": SIGNING, "street": 4, "thing": TURN}, True,
+     [NoPlan, NoSigning, NoStreet, None]),
+    (split.in_rings, {"plan": PLAN, "signing": SIGNING}, (0, 1, 2), [NoPlan, NoSigning]),
+    (rings.by_rings, {"plan": PLAN, "one": SIGNING, "other": SHORE_BEHIND}, ("town", 2),
+     [NoPlan, NoSigning, NoSigning]),
+    (rings.shows_by_rings,
+     {"plan": PLAN, "one": SIGNING, "other": RING_BEHIND, "thing": RING_ROW}, True,
+     [NoPlan, NoSigning, NoSigning, None]),
+    (shores.lead, {"plan": PLAN, "signing": SIGNING, "walk": WALK}, 1,
+     [NoPlan, NoSigning, NoWalk]),
+    # Which row or walk is told isn't promised: that it is one is tested where the others are.
+    (shores.by_shores, {"plan": PLAN, "one": SIGNING, "other": RING_BEHIND},
+     shores.by_shores(PLAN, SIGNING, RING_BEHIND), [NoPlan, NoSigning, NoSigning]),
+    (shores.shows_by_shores,
+     {"plan": PLAN, "one": SIGNING, "other": SHORE_BEHIND, "thing": SHORE_ROW}, True,
+     [NoPlan, NoSigning, NoSigning, None]),
+    (shores.heights, {"plan": PLAN, "one": SIGNING, "other": SHORE_BEHIND}, (0, 0, 0, 1, 1),
+     [NoPlan, NoSigning, NoSigning]),
+    (both.sweeps, {"plan": PLAN, "one": SIGNING, "other": BEHIND}, (1, 1, 1, 0, 0),
+     [NoPlan, NoSigning, NoSigning]),
+    (both.by_both, {"plan": PLAN, "one": SIGNING, "other": BEHIND},
+     both.by_both(PLAN, SIGNING, BEHIND), [NoPlan, NoSigning, NoSigning]),
+    (both.shows_by_both,
+     {"plan": PLAN, "one": SIGNING, "other": BEHIND, "thing": ("row", ROW)}, True,
+     [NoPlan, NoSigning, NoSigning, None]),
 ]
 
 WRONG = [None, False, True, -1, 9999999999999, "", "x" * 600, [], {}, [0], {0: [1]}, ([], {}),
@@ -42,12 +87,18 @@ WRONG = [None, False, True, -1, 9999999999999, "", "x" * 600, [], {}, [0], {0: [
 
 
 class Interface(Case):
-    def test_each_function_has_the_names_told_and_stands_in_its_file(self):
+    def test_each_function_has_the_names_told(self):
         for call, given, _, _ in CALLS:
             self.assertEqual(list(signature(call).parameters), list(given))
-            self.assertIn(call.__module__, ("ringshores.plans", "ringshores.turns"))
-            home = plans if call.__module__ == "ringshores.plans" else turns
-            self.assertIs(getattr(home, call.__name__), call)
+
+    def test_each_function_is_asked_here_and_stands_in_its_file(self):
+        asked = [call for call, _, _, _ in CALLS]
+        for home, names in HOMES.items():
+            for name in names:
+                self.assertIn(getattr(home, name), asked)
+                self.assertEqual(getattr(home, name).__module__, home.__name__)
+                self.assertEqual(getattr(home, name).__name__, name)
+        self.assertEqual(len(asked), sum(len(names) for names in HOMES.values()))
 
     def test_no_name_may_be_left_out(self):
         for call, given, _, _ in CALLS:
@@ -135,6 +186,10 @@ class Refusals(Case):
                 self.refused(NoSigning, call, PLAN, SIGNING[1:], *rest)
                 self.refused(NoSigning, call, helper.PRISM, SIGNING, *rest)
                 self.refused(NoPlan, call, (5, PLAN[1][::-1]), SIGNING, *rest)
+            if len(given) > 2 and refusals[2] is NoSigning:
+                rest = list(given.values())[3:]
+                self.refused(NoSigning, call, PLAN, SIGNING, SIGNING[1:], *rest)
+                self.refused(NoSigning, call, PLAN, SIGNING, SIGNING + (0,), *rest)
 
     def test_towns_turns_and_rows_of_another_plan(self):
         self.refused(NoTown, plans.come_to, helper.PAIR, (0,), 2)
@@ -142,6 +197,13 @@ class Refusals(Case):
         self.refused(NoRow, turns.behind, helper.PAIR, (0,), ROW)
         self.refused(NoRow, turns.back, helper.PAIR, (0,), ROW)
         self.refused(NoRow, turns.rings_first, helper.PAIR, (0,), ROW)
+        self.refused(NoStreet, split.holder, helper.PAIR, (0,), 1)
+        self.refused(NoStreet, split.shows_holder, helper.PAIR, (0,), 1, ("shore", (0,)))
+        self.refused(NoWalk, shores.lead, helper.PAIR, (0,), WALK)
+        self.assertIs(rings.shows_by_rings(helper.PAIR, (0,), (1,), ("town", 2)), False)
+        self.assertIs(shores.shows_by_shores(helper.TWINS, (0, 1), (1, 0), ("walk",) + WALK), False)
+        self.assertIs(both.shows_by_both(helper.TWINS, (0, 0), (0, 1), ("weights", 2, (0, 1, 0))),
+                      False)
 
 
 class Things(Case):
@@ -155,6 +217,10 @@ class Things(Case):
         self.refused(NoTurn, turns.turned, helper.TWINS, (0, 1), ("ring", (False, True)))
         self.refused(NoTurn, turns.turned, helper.PAIR, (0,), ("shore", (False,)))
         self.assertIs(turns.is_row(helper.PAIR, (0,), (("shore", (False,)),)), False)
+        self.refused(NoStreet, split.holder, helper.PAIR, (0,), False)
+        self.refused(NoWalk, shores.lead, helper.PAIR, (0,), (False, (0,)))
+        self.refused(NoWalk, shores.lead, helper.PAIR, (0,), (0, (False,)))
+        self.refused(NoSigning, both.sweeps, helper.PAIR, (0,), (True,))
 
     def test_numbers_of_thirteen_figures(self):
         for number in (9999999999999, -9999999999999):
@@ -171,6 +237,13 @@ class Things(Case):
                         turns.shores_of(plan, signing), plans.come_to(plan, signing, 0)]
                 told += [turns.turned(plan, signing, turn)
                          for turn in helper.turns_told(plan, signing)]
+                told += [split.holder(plan, signing, street) for street in range(len(signing))]
+                told.append(split.in_rings(plan, signing))
+                for other in helper.some_signings(plan, 4):
+                    told += [call(plan, signing, other)
+                             for call in (rings.by_rings, shores.by_shores, both.by_both)]
+                    told += [call(plan, signing, other) for call in (shores.heights, both.sweeps)
+                             if call(plan, signing, other) is not None]
                 for thing in told:
                     self.assertIs(type(thing), tuple)
                     self.assertNotIn("True", repr(thing))
@@ -186,3 +259,30 @@ class Things(Case):
                         self.assertIs(plans.is_signing(plan, now), True)
                         gone_back = turns.back(plan, signing, ((word, lot),))
                         self.just(turns.behind(plan, now, gone_back), signing)
+
+
+class Time(Case):
+    def test_six_towns_and_nine_streets_are_answered_in_reasonable_time(self):
+        # All of it takes less than a second: the bound is far, for slow machines.
+        before = process_time()
+        for plan in helper.BIG_PLANS:
+            for one, other in helper.some_pairs(plan, 8):
+                for street in range(len(one)):
+                    split.holder(plan, one, street)
+                split.in_rings(plan, one)
+                for call in (rings.by_rings, shores.by_shores, shores.heights, both.sweeps,
+                             both.by_both):
+                    call(plan, one, other)
+        self.assertLess(process_time() - before, 30)
+
+    def test_long_things_are_looked_at_in_reasonable_time(self):
+        before = process_time()
+        row = (("ring", (0, 4)),) * 998
+        signing = (0, 0, 0, 0, 1, 1, 0, 0, 0)
+        plan = helper.NINE_LIKE
+        self.assertIs(rings.shows_by_rings(plan, signing, signing, ("row", row)), True)
+        self.assertIs(both.shows_by_both(plan, signing, signing, ("row", row)), True)
+        self.assertIs(shores.shows_by_shores(plan, signing, (1,) + signing[1:],
+                                             ("walk", 0, (0, 8) * 1490)), True)
+        self.just(shores.lead(plan, signing, (0, (0, 4) * 1490)), 2980)
+        self.assertLess(process_time() - before, 30)

@@ -1,6 +1,7 @@
 """Rules of the language that a look at the files can see, for the files of the package."""
 
 import ast
+import builtins
 import unittest
 from pathlib import Path
 
@@ -20,6 +21,8 @@ NOT_USED = (ast.Global, ast.AsyncFunctionDef, ast.AsyncFor, ast.AsyncWith, ast.A
             ast.Div, ast.MatMult)
 BARRED = set("""type typing enum Enum Generic Protocol ABC namedtuple dataclass overload register mro
     elements open input law globals locals eval exec compile chr print""".split())
+AT_ONCE = {"range", "zip", "enumerate", "reversed", "items", "keys", "values"}
+GO_OVER = {"list", "tuple", "dict", "sorted", "sum", "any", "all", "enumerate", "zip", "min", "max", "len"}
 
 
 class Language(unittest.TestCase):
@@ -84,6 +87,48 @@ class Language(unittest.TestCase):
             self.assertEqual(bound & BUILTINS, set(), name)
             read = {node.id for node in ast.walk(tree) if isinstance(node, ast.Name)}
             self.assertLessEqual(read - bound, BUILTINS, name)
+
+    def test_no_name_stands_for_a_builtin_or_for_an_import_or_class_of_its_file(self):
+        for name, tree in self.trees():
+            taken = set(dir(builtins))
+            for node in ast.walk(tree):
+                if isinstance(node, ast.alias):
+                    taken.add(node.asname or node.name)
+                elif isinstance(node, ast.ClassDef):
+                    self.assertNotIn(node.name, dir(builtins), name)
+                    taken.add(node.name)
+            for node in ast.walk(tree):
+                if isinstance(node, ast.FunctionDef):
+                    self.assertNotIn(node.name, taken, name)
+                elif isinstance(node, ast.arg):
+                    self.assertNotIn(node.arg, taken, name)
+                elif isinstance(node, ast.Name) and not isinstance(node.ctx, ast.Load):
+                    self.assertNotIn(node.id, taken, name)
+
+    def test_ranges_and_their_like_are_gone_over_at_once(self):
+        for name, tree in self.trees():
+            at_once = []
+            for node in ast.walk(tree):
+                if isinstance(node, (ast.For, ast.comprehension)):
+                    at_once.append(node.iter)
+                if isinstance(node, ast.Call) and isinstance(node.func, ast.Name) and node.args:
+                    if node.func.id in GO_OVER:
+                        at_once.append(node.args[0])
+            for node in ast.walk(tree):
+                if isinstance(node, ast.Call) and node not in at_once:
+                    word = getattr(node.func, "id", getattr(node.func, "attr", None))
+                    self.assertNotIn(word, AT_ONCE, name)
+
+    def test_no_two_files_import_from_each_other(self):
+        needs = {}
+        for name, tree in self.trees():
+            needs["ringshores." + name[:-3]] = {node.module for node in ast.walk(tree)
+                                                if isinstance(node, ast.ImportFrom)}
+        while needs:
+            free = [home for home in needs if not needs[home] & set(needs)]
+            self.assertNotEqual(free, [], needs)
+            for home in free:
+                del needs[home]
 
     def test_methods_of_builtin_values(self):
         own = {node.name for _, tree in self.trees() for node in ast.walk(tree)

@@ -4,12 +4,9 @@ from ringshores.errors import NoRow, NoTurn
 from ringshores.plans import outs
 from ringshores.turns import back, behind, is_row, rings_first, rings_of, shores_of, turned
 from tests import helper
-from tests.helper import (ALONE, BIG_PLANS, BOW, KITE, NINE_LIKE, PAIR, PATH, SMALL_PLANS, TRIANGLE,
-                          TWINS, Case)
+from tests.helper import (ALONE, BIG_PLANS, BOW, FLAG, FLAG_SIGNING, KITE, NINE_LIKE, PAIR, PATH,
+                          SMALL_PLANS, TRIANGLE, TWINS, Case)
 
-# Both have rings and shores: the triangle is a ring, and a street leads to another one.
-FLAG = (5, ((0, 1), (0, 2), (1, 2), (2, 3), (3, 4)))
-FLAG_SIGNING = (0, 1, 0, 0, 0)
 BOW_SIGNING = (0, 1, 0, 0, 1, 0)
 
 
