@@ -62,6 +62,12 @@ def towns_from(town, paths):
     return tuple(sorted(ways_from(town, paths)))
 
 
+def towns_left(many, town, paths):
+    """The rising tuple of the towns, of so many, that are not come to from a town by paths (start, end)."""
+    reached = towns_from(town, paths)
+    return tuple([other for other in range(many) if other not in reached])
+
+
 def both_ways(streets):
     """The paths of all streets from one to other, and behind them those of all from other to one."""
     return list(streets) + [(other, one) for one, other in streets]
@@ -102,6 +108,12 @@ def need_signing(plan, signing):
         raise NoSigning()
 
 
+def need_town(plan, town):
+    """Refuse what is no town of a plan."""
+    if not is_below(town, plan[0]):
+        raise NoTown()
+
+
 def need_signings(plan, one, other):
     """Refuse what is no plan, then what are no two signings of it."""
     need_signing(plan, one)
@@ -114,16 +126,28 @@ def paths_of(plan, signing):
             for sign, (one, other) in zip(signing, plan[1])]
 
 
+def signings_of(plan):
+    """All signings of a plan."""
+    signings = [()]
+    for _ in plan[1]:
+        signings = [signing + (sign,) for signing in signings for sign in (0, 1)]
+    return signings
+
+
+def outs_of(plan, signing):
+    """The outs of what surely is a signing."""
+    starts = [path[0] for path in paths_of(plan, signing)]
+    return tuple([starts.count(town) for town in range(plan[0])])
+
+
 def outs(plan, signing):
     """The tuple with, for each town, how many streets lead out of it."""
     need_signing(plan, signing)
-    starts = [path[0] for path in paths_of(plan, signing)]
-    return tuple([starts.count(town) for town in range(plan[0])])
+    return outs_of(plan, signing)
 
 
 def come_to(plan, signing, town):
     """The rising tuple of the towns that are come to from a town, itself too."""
     need_signing(plan, signing)
-    if not is_below(town, plan[0]):
-        raise NoTown()
+    need_town(plan, town)
     return towns_from(town, paths_of(plan, signing))

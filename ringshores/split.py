@@ -1,7 +1,7 @@
 """Each street of a signing lies in a ring or at a shore: told is which, and by what."""
 
 from ringshores.errors import NoStreet
-from ringshores.plans import is_below, is_pair, need_signing, paths_of, towns_from, ways_from
+from ringshores.plans import is_below, is_pair, need_signing, paths_of, towns_from, towns_left, ways_from
 from ringshores.turns import is_ring, is_shore
 
 
@@ -20,12 +20,6 @@ def ring_through(paths, street, among):
     return tuple(sorted([among[place] for place in ways[start]] + [street]))
 
 
-def shore_ahead(plan, paths, street):
-    """All towns that are not come to from the end of a street that lies in no ring."""
-    reached = towns_from(paths[street][1], paths)
-    return tuple([town for town in range(plan[0]) if town not in reached])
-
-
 def holder(plan, signing, street):
     """("ring", ring), a ring of which the street is, or ("shore", shore), one out of which it leads."""
     need_signing(plan, signing)
@@ -33,7 +27,8 @@ def holder(plan, signing, street):
     paths = paths_of(plan, signing)
     ring = ring_through(paths, street, list(range(len(paths))))
     if ring is None:
-        return ("shore", shore_ahead(plan, paths, street))
+        # No street leads from the towns that are come to from its end to the others, of which its start is one.
+        return ("shore", towns_left(plan[0], paths[street][1], paths))
     return ("ring", ring)
 
 

@@ -32,11 +32,19 @@ def is_ring(plan, signing, thing):
     return lead_round([paths[street] for street in thing])
 
 
+def lead_out(paths, towns):
+    """Whether no path leads to one of the towns from another one."""
+    return all([start in towns or end not in towns for start, end in paths])
+
+
+def is_part(thing, many):
+    """Whether thing, of anything, is a rising tuple of towns, of so many, not none and not all."""
+    return is_rising(thing, many) and 0 < len(thing) < many
+
+
 def is_shore(plan, signing, thing):
     """Whether thing, of anything, is a shore of the signing."""
-    if not is_rising(thing, plan[0]) or not 0 < len(thing) < plan[0]:
-        return False
-    return all([start in thing or end not in thing for start, end in paths_of(plan, signing)])
+    return is_part(thing, plan[0]) and lead_out(paths_of(plan, signing), thing)
 
 
 def rings_from(first, paths):
@@ -76,7 +84,8 @@ def lots_of(many):
 def shores_of(plan, signing):
     """The rising tuple of the shores of a signing."""
     need_signing(plan, signing)
-    return tuple(sorted([lot for lot in lots_of(plan[0]) if is_shore(plan, signing, lot)]))
+    paths = paths_of(plan, signing)
+    return tuple(sorted([lot for lot in lots_of(plan[0]) if 0 < len(lot) < plan[0] and lead_out(paths, lot)]))
 
 
 def is_turn(plan, signing, thing):

@@ -5,9 +5,9 @@ from inspect import signature
 from itertools import permutations
 from time import process_time
 
-from ringshores import both, plans, rings, shores, split, turns
-from ringshores.errors import (NoPlan, NoRow, NoSigning, NoStreet, NoTown, NoTurn, NoWalk,
-                               ShoreError)
+from ringshores import both, counts, fewest, names, plans, rings, shores, split, turns, wishes
+from ringshores.errors import (NoNumbers, NoPlan, NoRow, NoSigning, NoStreet, NoTown, NoTurn, NoWalk,
+                               NoWishes, NoWord, ShoreError)
 from tests import helper
 from tests.helper import Case
 
@@ -21,6 +21,9 @@ SHORE_BEHIND = (0, 1, 0, 1, 0)
 WALK = (3, (3, 1, 0))
 RING_ROW = ("row", (("ring", (0, 1, 2)),))
 SHORE_ROW = ("row", (("shore", (0, 1, 2)),))
+NUMBERS = (1, 1, 2, 1, 0)
+WISHES = ((0, None, None, None, None), (None, 1, 1, 1, 1))
+GRANTED = ("signing", (0, 1, 0, 1, 1))
 
 # Where each function of the interface stands.
 HOMES = {
@@ -30,6 +33,10 @@ HOMES = {
     rings: ["by_rings", "shows_by_rings"],
     shores: ["lead", "by_shores", "shows_by_shores", "heights"],
     both: ["sweeps", "by_both", "shows_by_both"],
+    names: ["rooted", "name_of", "name_by", "least_times"],
+    counts: ["how_many_lots", "how_many_kinds", "how_many", "how_many_without"],
+    wishes: ["grant", "shows_grant"],
+    fewest: ["fewest", "how_many_fewest", "levels"],
 }
 
 # Each function, what is handed in by its names and in their order, what is told, and the
@@ -80,6 +87,28 @@ CALLS = [
     (both.shows_by_both,
      {"plan": PLAN, "one": SIGNING, "other": BEHIND, "thing": ("row", ROW)}, True,
      [NoPlan, NoSigning, NoSigning, None]),
+    (names.rooted, {"plan": PLAN, "signing": SIGNING, "root": 3},
+     ((("shore", (0, 1, 2)),), SHORE_BEHIND), [NoPlan, NoSigning, NoTown]),
+    (names.name_of, {"plan": PLAN, "signing": SIGNING, "root": 3}, (1, 1, 1, 2, 0),
+     [NoPlan, NoSigning, NoTown]),
+    (names.name_by, {"plan": PLAN, "numbers": NUMBERS, "root": 3}, (1, 1, 1, 2, 0),
+     [NoPlan, NoNumbers, NoTown]),
+    (names.least_times, {"plan": PLAN, "one": SIGNING, "other": (0, 0, 0, 1, 0)}, 3,
+     [NoPlan, NoSigning, NoSigning]),
+    (counts.how_many_lots, {"plan": PLAN, "word": "forests"}, 28, [NoPlan, NoWord]),
+    (counts.how_many_kinds, {"plan": PLAN, "way": "shores"}, 4, [NoPlan, NoWord]),
+    (counts.how_many, {"plan": PLAN, "signing": SIGNING, "way": "both"}, 8,
+     [NoPlan, NoSigning, NoWord]),
+    (counts.how_many_without, {"plan": PLAN, "word": "rings"}, 24, [NoPlan, NoWord]),
+    (wishes.grant, {"plan": PLAN, "wishes": WISHES}, GRANTED, [NoPlan, NoWishes]),
+    (wishes.shows_grant, {"plan": PLAN, "wishes": WISHES, "thing": GRANTED}, True,
+     [NoPlan, NoWishes, None]),
+    (fewest.fewest, {"plan": PLAN, "one": SIGNING, "other": BEHIND, "way": "both"},
+     (("ring", (0, 1, 2)), ("shore", (0, 1, 2))), [NoPlan, NoSigning, NoSigning, NoWord]),
+    (fewest.how_many_fewest, {"plan": PLAN, "one": SIGNING, "other": BEHIND, "way": "both"}, 2,
+     [NoPlan, NoSigning, NoSigning, NoWord]),
+    (fewest.levels, {"plan": PLAN, "signing": SIGNING, "way": "both"}, (1, 3, 3, 1),
+     [NoPlan, NoSigning, NoWord]),
 ]
 
 WRONG = [None, False, True, -1, 9999999999999, "", "x" * 600, [], {}, [0], {0: [1]}, ([], {}),
@@ -200,6 +229,13 @@ class Refusals(Case):
         self.refused(NoStreet, split.holder, helper.PAIR, (0,), 1)
         self.refused(NoStreet, split.shows_holder, helper.PAIR, (0,), 1, ("shore", (0,)))
         self.refused(NoWalk, shores.lead, helper.PAIR, (0,), WALK)
+        self.refused(NoTown, names.rooted, helper.PAIR, (0,), 2)
+        self.refused(NoTown, names.name_of, helper.PAIR, (0,), 2)
+        self.refused(NoNumbers, names.name_by, helper.PAIR, NUMBERS, 0)
+        self.refused(NoTown, names.name_by, helper.PAIR, (1, 0), 2)
+        self.refused(NoWishes, wishes.grant, helper.PAIR, WISHES)
+        self.refused(NoWishes, wishes.shows_grant, helper.PAIR, WISHES, GRANTED)
+        self.assertIs(wishes.shows_grant(helper.PAIR, ((None,), (1, 0)), GRANTED), False)
         self.assertIs(rings.shows_by_rings(helper.PAIR, (0,), (1,), ("town", 2)), False)
         self.assertIs(shores.shows_by_shores(helper.TWINS, (0, 1), (1, 0), ("walk",) + WALK), False)
         self.assertIs(both.shows_by_both(helper.TWINS, (0, 0), (0, 1), ("weights", 2, (0, 1, 0))),
@@ -221,6 +257,10 @@ class Things(Case):
         self.refused(NoWalk, shores.lead, helper.PAIR, (0,), (False, (0,)))
         self.refused(NoWalk, shores.lead, helper.PAIR, (0,), (0, (False,)))
         self.refused(NoSigning, both.sweeps, helper.PAIR, (0,), (True,))
+        self.refused(NoTown, names.name_of, helper.PAIR, (0,), True)
+        self.refused(NoNumbers, names.name_by, helper.PAIR, (True, False), 0)
+        self.refused(NoWishes, wishes.grant, helper.PAIR, ((False,), (None, None)))
+        self.refused(NoWishes, wishes.grant, helper.PAIR, ((None,), (True, None)))
 
     def test_numbers_of_thirteen_figures(self):
         for number in (9999999999999, -9999999999999):
@@ -239,6 +279,9 @@ class Things(Case):
                          for turn in helper.turns_told(plan, signing)]
                 told += [split.holder(plan, signing, street) for street in range(len(signing))]
                 told.append(split.in_rings(plan, signing))
+                told += [call(plan, signing, 0) for call in (names.rooted, names.name_of)]
+                told += [fewest.levels(plan, signing, way) for way in counts.WAYS]
+                told.append(wishes.grant(plan, (signing, plans.outs(plan, signing))))
                 for other in helper.some_signings(plan, 4):
                     told += [call(plan, signing, other)
                              for call in (rings.by_rings, shores.by_shores, both.by_both)]
@@ -263,17 +306,32 @@ class Things(Case):
 
 class Time(Case):
     def test_six_towns_and_nine_streets_are_answered_in_reasonable_time(self):
-        # All of it takes less than a second: the bound is far, for slow machines.
+        # All of it takes about ten seconds: the bound is far, for slow machines.
         before = process_time()
         for plan in helper.BIG_PLANS:
-            for one, other in helper.some_pairs(plan, 8):
+            for one, other in helper.some_pairs(plan, 5):
                 for street in range(len(one)):
                     split.holder(plan, one, street)
                 split.in_rings(plan, one)
                 for call in (rings.by_rings, shores.by_shores, shores.heights, both.sweeps,
                              both.by_both):
                     call(plan, one, other)
-        self.assertLess(process_time() - before, 30)
+                for way in counts.WAYS:
+                    counts.how_many(plan, one, way)
+                    fewest.fewest(plan, one, other, way)
+                    fewest.how_many_fewest(plan, one, other, way)
+                    fewest.levels(plan, one, way)
+                for root in range(plan[0]):
+                    names.rooted(plan, one, root)
+                    names.name_of(plan, one, root)
+                    names.name_by(plan, plans.outs(plan, one), root)
+                names.least_times(plan, one, other)
+                wishes.grant(plan, (one, plans.outs(plan, other)))
+            for word in counts.WAYS:
+                counts.how_many_kinds(plan, word)
+            for word in counts.WAYS[:2]:
+                counts.how_many_without(plan, word)
+        self.assertLess(process_time() - before, 60)
 
     def test_long_things_are_looked_at_in_reasonable_time(self):
         before = process_time()
