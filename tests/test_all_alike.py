@@ -5,9 +5,10 @@ from inspect import signature
 from itertools import permutations
 from time import process_time
 
-from ringshores import both, counts, fewest, names, plans, rings, shores, split, turns, wishes
-from ringshores.errors import (NoNumbers, NoPlan, NoRow, NoSigning, NoStreet, NoTown, NoTurn, NoWalk,
-                               NoWishes, NoWord, ShoreError)
+from ringshores import (both, called, counts, desk, fewest, keeper, names, plans, rings, shores, split,
+                        texts, turns, wishes)
+from ringshores.errors import (NoNumbers, NoOrder, NoPlan, NoRow, NoSigning, NoStreet, NoText, NoTown,
+                               NoTurn, NoWalk, NoWishes, NoWord, ShoreError)
 from tests import helper
 from tests.helper import Case
 
@@ -24,6 +25,9 @@ SHORE_ROW = ("row", (("shore", (0, 1, 2)),))
 NUMBERS = (1, 1, 2, 1, 0)
 WISHES = ((0, None, None, None, None), (None, 1, 1, 1, 1))
 GRANTED = ("signing", (0, 1, 0, 1, 1))
+TEXT = "5 0>1 2>0 1>2 2>3 3>4"
+ORDER = (4, 3, 2, 1, 0)
+CALLED = ((5, ((0, 1), (1, 2), (2, 3), (2, 4), (3, 4))), (1, 1, 1, 0, 1))
 
 # Where each function of the interface stands.
 HOMES = {
@@ -37,6 +41,8 @@ HOMES = {
     counts: ["how_many_lots", "how_many_kinds", "how_many", "how_many_without"],
     wishes: ["grant", "shows_grant"],
     fewest: ["fewest", "how_many_fewest", "levels"],
+    called: ["turned_about", "called"],
+    texts: ["signing_text", "row_text", "read_signing"],
 }
 
 # Each function, what is handed in by its names and in their order, what is told, and the
@@ -109,6 +115,12 @@ CALLS = [
      [NoPlan, NoSigning, NoSigning, NoWord]),
     (fewest.levels, {"plan": PLAN, "signing": SIGNING, "way": "both"}, (1, 3, 3, 1),
      [NoPlan, NoSigning, NoWord]),
+    (called.turned_about, {"plan": PLAN, "signing": SIGNING}, (1, 0, 1, 1, 1), [NoPlan, NoSigning]),
+    (called.called, {"plan": PLAN, "signing": SIGNING, "order": ORDER}, CALLED,
+     [NoPlan, NoSigning, NoOrder]),
+    (texts.signing_text, {"plan": PLAN, "signing": SIGNING}, TEXT, [NoPlan, NoSigning]),
+    (texts.row_text, {"plan": PLAN, "row": ROW}, "shore 0 1 2, ring 0 1 2", [NoPlan, NoRow]),
+    (texts.read_signing, {"text": TEXT}, (PLAN, SIGNING), [NoText]),
 ]
 
 WRONG = [None, False, True, -1, 9999999999999, "", "x" * 600, [], {}, [0], {0: [1]}, ([], {}),
@@ -233,6 +245,8 @@ class Refusals(Case):
         self.refused(NoTown, names.name_of, helper.PAIR, (0,), 2)
         self.refused(NoNumbers, names.name_by, helper.PAIR, NUMBERS, 0)
         self.refused(NoTown, names.name_by, helper.PAIR, (1, 0), 2)
+        self.refused(NoOrder, called.called, helper.PAIR, (0,), ORDER)
+        self.refused(NoRow, texts.row_text, helper.PAIR, ROW)
         self.refused(NoWishes, wishes.grant, helper.PAIR, WISHES)
         self.refused(NoWishes, wishes.shows_grant, helper.PAIR, WISHES, GRANTED)
         self.assertIs(wishes.shows_grant(helper.PAIR, ((None,), (1, 0)), GRANTED), False)
@@ -259,6 +273,10 @@ class Things(Case):
         self.refused(NoSigning, both.sweeps, helper.PAIR, (0,), (True,))
         self.refused(NoTown, names.name_of, helper.PAIR, (0,), True)
         self.refused(NoNumbers, names.name_by, helper.PAIR, (True, False), 0)
+        self.refused(NoOrder, called.called, helper.PAIR, (0,), (False, True))
+        self.refused(NoRow, texts.row_text, helper.PAIR, (("shore", (False,)),))
+        self.refused(NoSigning, keeper.Keeper, helper.PAIR, (False,))
+        self.refused(NoTurn, keeper.Keeper(helper.PAIR, (0,)).shore, (False,))
         self.refused(NoWishes, wishes.grant, helper.PAIR, ((False,), (None, None)))
         self.refused(NoWishes, wishes.grant, helper.PAIR, ((None,), (True, None)))
 
@@ -281,6 +299,9 @@ class Things(Case):
                 told.append(split.in_rings(plan, signing))
                 told += [call(plan, signing, 0) for call in (names.rooted, names.name_of)]
                 told += [fewest.levels(plan, signing, way) for way in counts.WAYS]
+                told.append(called.turned_about(plan, signing))
+                told.append(called.called(plan, signing, tuple(range(plan[0]))[::-1]))
+                told.append(texts.read_signing(texts.signing_text(plan, signing)))
                 told.append(wishes.grant(plan, (signing, plans.outs(plan, signing))))
                 for other in helper.some_signings(plan, 4):
                     told += [call(plan, signing, other)
@@ -326,12 +347,19 @@ class Time(Case):
                     names.name_of(plan, one, root)
                     names.name_by(plan, plans.outs(plan, one), root)
                 names.least_times(plan, one, other)
+                self.asks_a_desk(plan, one, other)
                 wishes.grant(plan, (one, plans.outs(plan, other)))
             for word in counts.WAYS:
                 counts.how_many_kinds(plan, word)
             for word in counts.WAYS[:2]:
                 counts.how_many_without(plan, word)
         self.assertLess(process_time() - before, 60)
+
+    def asks_a_desk(self, plan, one, other):
+        asked = desk.Desk()
+        asked.say("plan " + texts.signing_text(plan, one))
+        for line in ("rings", "shores", "name 1", "kinds both", "far " + texts.signing_text(plan, other)):
+            asked.say(line)
 
     def test_long_things_are_looked_at_in_reasonable_time(self):
         before = process_time()

@@ -17,8 +17,9 @@ METHODS = set("""append clear copy count endswith extend find get index insert i
     values zfill bit_length add discard isascii""".split())
 LIBRARY = {"heapq": {"heappush", "heappop"}, "math": {"gcd", "lcm", "isqrt", "comb"},
            "itertools": {"product", "combinations", "permutations"}}
+# A class of the package has __eq__ and __len__, so generator expressions are not used either (L7).
 NOT_USED = (ast.Global, ast.AsyncFunctionDef, ast.AsyncFor, ast.AsyncWith, ast.Await, ast.Import,
-            ast.Div, ast.MatMult)
+            ast.Div, ast.MatMult, ast.GeneratorExp, ast.Try)
 BARRED = set("""type typing enum Enum Generic Protocol ABC namedtuple dataclass overload register mro
     elements open input law globals locals eval exec compile chr print""".split())
 AT_ONCE = {"range", "zip", "enumerate", "reversed", "items", "keys", "values"}
@@ -57,6 +58,21 @@ class Language(unittest.TestCase):
                     if not node.module.startswith("ringshores."):
                         words = {part.name for part in node.names}
                         self.assertLessEqual(words, LIBRARY[node.module], name)
+
+    def test_each_name_is_imported_from_the_file_that_defines_it_and_is_read(self):
+        defined = {}
+        for name, tree in self.trees():
+            defined["ringshores." + name[:-3]] = {node.name for node in tree.body if hasattr(node, "name")} | {
+                target.id for node in tree.body if isinstance(node, ast.Assign) for target in node.targets}
+        for name, tree in self.trees():
+            read = {node.id for node in ast.walk(tree) if isinstance(node, ast.Name)}
+            for node in ast.walk(tree):
+                if isinstance(node, ast.ImportFrom):
+                    words = {part.name for part in node.names}
+                    self.assertLessEqual(words, read, name)
+                    self.assertTrue(all(part.asname is None for part in node.names), name)
+                    if node.module in defined:
+                        self.assertLessEqual(words, defined[node.module], name)
 
     def test_words_and_kinds_of_statements_that_are_not_used(self):
         for name, tree in self.trees():
@@ -129,6 +145,29 @@ class Language(unittest.TestCase):
             self.assertNotEqual(free, [], needs)
             for home in free:
                 del needs[home]
+
+    def test_attributes_that_are_read_are_methods_or_assigned(self):
+        assigned = set()
+        for _, tree in self.trees():
+            for node in ast.walk(tree):
+                if isinstance(node, ast.FunctionDef):
+                    assigned.add(node.name)
+                if isinstance(node, ast.Attribute) and isinstance(node.ctx, ast.Store):
+                    assigned.add(node.attr)
+        for name, tree in self.trees():
+            for node in ast.walk(tree):
+                if isinstance(node, ast.Attribute):
+                    self.assertIn(node.attr, assigned | METHODS, name)
+
+    def test_a_class_has_no_name_as_a_method_and_an_attribute(self):
+        for name, tree in self.trees():
+            for node in ast.walk(tree):
+                if isinstance(node, ast.ClassDef):
+                    methods = [part.name for part in node.body if isinstance(part, ast.FunctionDef)]
+                    stored = {part.attr for part in ast.walk(node) if isinstance(part, ast.Attribute)
+                              and isinstance(part.ctx, ast.Store)}
+                    self.assertEqual(len(methods), len(set(methods)), name)
+                    self.assertEqual(set(methods) & stored, set(), name)
 
     def test_methods_of_builtin_values(self):
         own = {node.name for _, tree in self.trees() for node in ast.walk(tree)

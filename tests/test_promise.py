@@ -1,8 +1,19 @@
-"""Point 5, as far as turns, rings and shores bear it out: all signings of a plan gone through."""
+"""Point 5: all signings of a plan gone through, and what the functions tell of them put side by side."""
 
 from fractions import Fraction
 
+from ringshores.both import by_both, sweeps
+from ringshores.called import called, turned_about
+from ringshores.counts import how_many, how_many_kinds, how_many_lots, how_many_without
+from ringshores.desk import Desk
+from ringshores.fewest import fewest, how_many_fewest, levels
+from ringshores.keeper import Keeper
+from ringshores.names import least_times, name_by, name_of, rooted
 from ringshores.plans import come_to, outs
+from ringshores.rings import by_rings
+from ringshores.shores import by_shores, heights
+from ringshores.split import in_rings
+from ringshores.texts import read_signing, row_text, signing_text
 from ringshores.turns import behind, rings_first, rings_of, shores_of, turned
 from tests import helper
 from tests.helper import Case
@@ -123,9 +134,9 @@ class Promise(Case):
         for plan in PLANS:
             for root in range(plan[0]):
                 for kind in kinds(plan, ("ring", "shore")):
-                    told = {outs(plan, signing) for signing in kind
-                            if len(come_to(plan, signing, root)) == plan[0]}
-                    self.assertEqual(len(told), 1)
+                    told = [signing for signing in kind
+                            if len(come_to(plan, signing, root)) == plan[0]]
+                    self.assertEqual(set(told), helper.led_to_told(plan, told[0], ("ring",)))
 
     def test_each_street_lies_in_a_ring_or_at_a_shore_and_no_turn_changes_which(self):
         for plan in PLANS:
@@ -149,3 +160,105 @@ class Promise(Case):
                         last = behind(plan, signing, (ring, shore))
                         self.just(behind(plan, signing, (shore, ring)), last)
                         self.just(rings_first(plan, signing, (shore, ring)), (ring, shore))
+
+
+class SideBySide(Case):
+    """The functions of all files told of the same plans and signings, those of nine streets too."""
+
+    def test_by_rings(self):
+        for plan in helper.SMALL_PLANS + helper.BIG_PLANS:
+            for one, other in helper.some_pairs(plan, 6):
+                there = outs(plan, one) == outs(plan, other)
+                self.assertEqual(by_rings(plan, one, other)[0] == "row", there)
+                self.assertEqual(fewest(plan, one, other, "rings") is not None, there)
+                self.assertEqual(how_many_fewest(plan, one, other, "rings") > 0, there)
+
+    def test_by_shores(self):
+        for plan in helper.SMALL_PLANS + helper.BIG_PLANS:
+            rounds = round_walks(plan)
+            for one, other in helper.some_pairs(plan, 6):
+                there = leads(one, rounds) == leads(other, rounds)
+                self.assertEqual(by_shores(plan, one, other)[0] == "row", there)
+                self.assertEqual(heights(plan, one, other) is not None, there)
+                self.assertEqual(fewest(plan, one, other, "shores") is not None, there)
+                self.assertEqual(how_many_fewest(plan, one, other, "shores") > 0, there)
+
+    def test_by_both(self):
+        for plan in helper.SMALL_PLANS + helper.BIG_PLANS:
+            for one, other in helper.some_pairs(plan, 6):
+                differ = [new - old for old, new in zip(outs(plan, one), outs(plan, other))]
+                there = bring(plan, differ)
+                self.assertEqual(by_both(plan, one, other)[0] == "row", there)
+                self.assertEqual(sweeps(plan, one, other) is not None, there)
+                self.assertEqual(least_times(plan, one, other) == 1, there)
+                self.assertEqual(fewest(plan, one, other, "both") is not None, there)
+                self.assertEqual(how_many_fewest(plan, one, other, "both") > 0, there)
+                for root in range(plan[0]):
+                    self.assertEqual(name_of(plan, one, root) == name_of(plan, other, root), there)
+
+    def test_rings_alone_and_shores_alone_do_what_the_parts_of_a_row_of_both_do(self):
+        for plan in helper.SMALL_PLANS + helper.BIG_PLANS:
+            for one in helper.some_signings(plan, 6):
+                row, other = helper.walk_row(plan, one, 9, lambda place: 5 * place + 2)
+                first = rings_first(plan, one, row)
+                cut = len([turn for turn in row if turn[0] == "ring"])
+                middle = behind(plan, one, first[:cut])
+                self.just(behind(plan, one, first), other)
+                self.assertEqual(by_rings(plan, one, middle)[0], "row")
+                self.assertEqual(by_shores(plan, middle, other)[0], "row")
+                self.just(in_rings(plan, other), in_rings(plan, one))
+
+    def test_counts(self):
+        for plan in helper.SMALL_PLANS + helper.BIG_PLANS:
+            for way, word in (("rings", "forests"), ("shores", "holding"), ("both", "trees")):
+                self.just(how_many_kinds(plan, way), how_many_lots(plan, word))
+                for signing in helper.some_signings(plan, 3):
+                    self.just(how_many(plan, signing, way), sum(levels(plan, signing, way)))
+            names = {name_of(plan, signing, 0) for signing in helper.signings_of(plan)}
+            self.assertEqual(len(names), how_many_lots(plan, "trees"))
+            free = [signing for signing in helper.signings_of(plan) if in_rings(plan, signing) == ()]
+            self.just(how_many_without(plan, "rings"), len(free))
+
+    def test_names_and_the_signings_that_they_name(self):
+        for plan in helper.SMALL_PLANS + helper.BIG_PLANS:
+            for signing in helper.some_signings(plan, 5):
+                for root in range(plan[0]):
+                    _, last = rooted(plan, signing, root)
+                    self.just(name_of(plan, signing, root), outs(plan, last))
+                    self.just(name_by(plan, outs(plan, last), root), outs(plan, last))
+                    self.assertEqual(by_shores(plan, signing, last)[0], "row")
+
+    def test_called_otherwise_and_turned_about_all_is_as_many(self):
+        for plan in helper.SMALL_PLANS + helper.BIG_PLANS:
+            order = tuple((town + 1) % plan[0] for town in range(plan[0]))
+            for signing in helper.some_signings(plan, 3):
+                for other in (called(plan, signing, order), (plan, turned_about(plan, signing))):
+                    self.assertEqual(len(rings_of(*other)), len(rings_of(plan, signing)))
+                    self.assertEqual(len(shores_of(*other)), len(shores_of(plan, signing)))
+                    self.assertEqual(len(in_rings(*other)), len(in_rings(plan, signing)))
+                    for way in ("rings", "shores", "both"):
+                        self.just(levels(*other, way), levels(plan, signing, way))
+                        self.just(how_many_kinds(other[0], way), how_many_kinds(plan, way))
+
+    def test_a_keeper_and_a_desk_tell_what_the_functions_tell(self):
+        for plan in helper.SMALL_PLANS + helper.BIG_PLANS:
+            for one in helper.some_signings(plan, 4):
+                row, other = helper.walk_row(plan, one, 5, lambda place: 7 * place + 1)
+                keeper, desk = Keeper(plan, one), Desk()
+                desk.say("plan " + signing_text(plan, one))
+                keeper.play(row)
+                for turn in row:
+                    self.just(desk.say(row_text(plan, (turn,))), "ok")
+                self.just(keeper.signing(), other)
+                self.just(read_signing(desk.say("show")), (plan, other))
+                self.just(desk.say("row"), row_text(plan, keeper.row()))
+                self.just(desk.say("outs").split(" "), [str(out) for out in outs(plan, other)])
+                self.just(desk.say("rings"), str(len(rings_of(plan, other))))
+                self.just(desk.say("shores"), str(len(shores_of(plan, other))))
+                for root in range(plan[0]):
+                    self.just(desk.say("name " + str(root)).split(" "),
+                              [str(out) for out in name_of(plan, other, root)])
+                for way in ("rings", "shores", "both"):
+                    self.just(desk.say("kinds " + way), str(how_many_kinds(plan, way)))
+                far = len(fewest(plan, other, one, "both"))
+                self.just(desk.say("far " + signing_text(plan, one)), str(far))
